@@ -30,6 +30,9 @@ class Plan:
     def with_sides(self, sides):
         return Plan(self.wide, self.across, self.along, self.doors, sides)
 
+    def turned(self):
+        return Plan(self.wide, self.along, self.across, self.sides, self.doors)
+
 
 def is_strip_width(number):
     return 1 <= number <= WIDEST_STRIP
@@ -76,6 +79,11 @@ def is_hit(door, seams):
     return any([door[0] < seam < door[1] for seam in seams])
 
 
-def is_clear(plan, first):
+def hit_doors(plan, first):
+    """The numbers of the doors in which some seam lies, rising."""
     seams = seams_of(plan, first)
-    return not any([is_hit(door, seams) for door in plan.doors])
+    return [i for i, door in enumerate(plan.doors) if is_hit(door, seams)]
+
+
+def is_clear(plan, first):
+    return len(hit_doors(plan, first)) == 0

@@ -50,9 +50,18 @@ def ask_last(*calls):
     return ask(*calls)[-1]
 
 
+def furnished(wide, across, along, doors=(), sides=()):
+    """The calls that make such a room."""
+    calls = [("begin", wide, across, along)]
+    return calls + [("door", low, high) for low, high in doors] + [("side", low, high) for low, high in sides]
+
+
 def looks():
     """Lines' ends by whose answers what a room is, and what can be taken back, can be told."""
     firsts = range(1, 13)
+    for count in range(12):
+        seen = [("state",), ("firsts",), ("hits", 1)]
+        yield [("back",)] * count + seen + [("turn",)] + seen
     yield [("seams", 1), ("strips", 1), ("wide", 60)] + [("clear", o) for o in range(1, 61)]
     yield [("clear", o) for o in firsts] + [("strips", o) for o in firsts]
     yield [("room", across, 200) for across in range(1, 60)]

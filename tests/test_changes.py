@@ -77,6 +77,8 @@ class Back(unittest.TestCase):
             [("unside", 0), ("room", 200, 19), ("unside", 0), ("unside", 0)],
             [("room", 24, 30), ("room", 40, 19), ("room", 25, 20), ("wide", 1)],
             [("back",)] * 5,
+            [("turn",), ("room", 11, 200), ("firsts",), ("undoor", 0), ("firsts",), ("unside", 0)],
+            [("firsts",), ("best",), ("way_round",), ("hits", 3), ("widest", 2), ("widths", 1, 60)],
         ]
         for look in looks:
             told = ask(*FURNISHED, call, ("back",), *look)
@@ -86,13 +88,14 @@ class Back(unittest.TestCase):
 
     def test_each_kind_of_change(self):
         calls = [("door", 14, 16), ("side", 14, 16), ("undoor", 0), ("undoor", 1), ("unside", 0), ("unside", 1)]
-        for call in calls + [("wide", 7), ("room", 200, 200), ("room", 25, 20)]:
+        for call in calls + [("wide", 7), ("room", 200, 200), ("room", 25, 20), ("turn",)]:
             self.assert_taken_back(call)
 
     def test_one_that_leaves_all_as_it_was_counts(self):
         for call in (("wide", 10), ("room", 40, 30)):
             self.assert_taken_back(call)
-        self.assertEqual(ask(ROOM, ("wide", 10), ("room", 40, 30), ("back",), ("back",), ("back",))[3:], [[1], [0], [-2]])
+        told = ask(ROOM, ("wide", 10), ("room", 40, 30), ("back",), ("back",), ("back",))
+        self.assertEqual(told[3:], [[1], [0], [-2]])
 
     def test_nothing_to_take_back(self):
         assert_refused(self, [ROOM], ("back",), -2)
@@ -125,15 +128,21 @@ class Back(unittest.TestCase):
     def test_a_refused_call_is_none(self):
         refused = [
             ("door", 5, 5), ("side", 5, 5), ("undoor", 1), ("unside", 1), ("wide", 0), ("room", 0, 1), ("room", 1, 30),
-            ("begin", 0, 1, 1), ("seams", 0),
+            ("begin", 0, 1, 1), ("seams", 0), ("hits", 0), ("widths", 0, 1), ("best_width", 0, 1), ("could", 1, 1),
+            ("widest", 40),
         ]
         told = ask(ROOM, ("door", 3, 9), ("side", 3, 9), *refused, ("back",), ("back",), ("back",))
         self.assertEqual(told[3:12], [[-22], [-22], [-2], [-2], [-22], [-22], [-16], [-22], [-22]])
-        self.assertEqual(told[12:], [[1], [0], [-2]])
+        self.assertEqual(told[12:17], [[-22]] * 5)
+        self.assertEqual(told[17:], [[1], [0], [-2]])
 
     def test_a_question_is_none(self):
-        told = ask(ROOM, ("wide", 7), ("seams", 3), ("strips", 3), ("clear", 3), ("back",), ("back",))
-        self.assertEqual(told[5:], [[0], [-2]])
+        questions = [
+            ("seams", 3), ("strips", 3), ("clear", 3), ("firsts",), ("best",), ("fewest",), ("way_round",),
+            ("widths", 1, 60), ("best_width", 1, 60), ("could", 1, 2), ("widest", 3), ("hits", 3), ("state",),
+        ]
+        told = ask(ROOM, ("wide", 7), *questions, ("back",), ("back",))
+        self.assertEqual(told[15:], [[0], [-2]])
 
     def test_a_door_that_is_gone_comes_back_in_its_place(self):
         doors = [ROOM] + [("door", o - 1, o + 1) for o in (1, 3, 5)]

@@ -18,7 +18,7 @@ BARRED_EXPRESSIONS = (
 )
 PYTHONS_OWN = (
     "len range enumerate zip min max sum abs sorted reversed int str bool list tuple dict set isinstance ord repr "
-    "any all divmod ValueError KeyError IndexError NotImplementedError"
+    "any all divmod ValueError KeyError IndexError"
 ).split()
 BARRED_WORDS = re.compile(
     r"\b(type|typing|typing_extensions|enum|Enum|IntEnum|StrEnum|Flag|IntFlag|Generic|Protocol|ABC|ABCMeta|namedtuple|"

@@ -1,8 +1,8 @@
-"""seams, strips and clear."""
+"""seams, strips, clear and hits."""
 
 import unittest
 
-from lines import GREATEST, ask, ask_last, assert_refused
+from lines import GREATEST, ask, ask_last, assert_refused, furnished
 
 
 def laid(wide, across, along, o):
@@ -59,23 +59,23 @@ class Seams(unittest.TestCase):
         self.assertEqual(told[3:], laid(10, 45, 20, 3))
 
     def test_asking_changes_nothing(self):
-        calls = [("seams", 3), ("strips", 3), ("clear", 3)]
+        calls = [("seams", 3), ("strips", 3), ("clear", 3), ("hits", 3)]
         told = ask(("begin", 10, 45, 20), ("door", 2, 4), *calls, *calls, ("back",))
-        self.assertEqual(told[2:5], told[5:8])
-        self.assertEqual(told[8], [0])
+        self.assertEqual(told[2:6], told[6:10])
+        self.assertEqual(told[10], [0])
 
 
 class First(unittest.TestCase):
     def test_may_be_1_to_a_strips_width(self):
         before = [("begin", 12, 40, 30), ("door", 3, 9), ("side", 1, 2), ("door", 20, 30)]
-        for name in ("seams", "strips", "clear"):
+        for name in ("seams", "strips", "clear", "hits"):
             for o in (1, 12):
                 self.assertGreaterEqual(ask_last(*before, (name, o))[0], 0)
             for o in (0, 13, 40, GREATEST):
                 assert_refused(self, before, (name, o), -22)
 
     def test_goes_by_the_width_as_it_is_now(self):
-        for name in ("seams", "strips", "clear"):
+        for name in ("seams", "strips", "clear", "hits"):
             told = ask(("begin", 12, 40, 30), ("wide", 20), (name, 20), ("wide", 5), (name, 6), ("back",), (name, 20))
             self.assertGreaterEqual(told[2][0], 0)
             self.assertEqual(told[4], [-22])
@@ -133,6 +133,58 @@ class Clear(unittest.TestCase):
     def test_a_door_that_is_gone_bars_no_more(self):
         told = ask(("begin", 10, 40, 5), ("door", 13, 15), ("clear", 4), ("undoor", 0), ("clear", 4))
         self.assertEqual(told[2:], [[0], [0], [1]])
+
+
+def hits(wide, across, doors, o):
+    return ask_last(*furnished(wide, across, 10, doors), ("hits", o))
+
+
+class Hits(unittest.TestCase):
+    def test_in_how_many_doors_then_which(self):
+        doors = [(12, 18), (40, 45), (0, 4)]
+        self.assertEqual(hits(10, 45, doors, 3), [3, 0, 1, 2])
+        self.assertEqual(hits(10, 45, doors, 4), [2, 0, 1])
+        self.assertEqual(hits(10, 45, doors, 2), [2, 1, 2])
+        self.assertEqual(hits(10, 45, doors, 8), [0])
+        self.assertEqual(hits(10, 45, doors, 5), [1, 0])
+
+    def test_rise_whatever_the_doors_places(self):
+        self.assertEqual(hits(10, 60, [(52, 54), (42, 44), (30, 32), (12, 14), (2, 4)], 3), [4, 0, 1, 3, 4])
+
+    def test_without_doors(self):
+        self.assertEqual(hits(10, 45, [], 3), [0])
+
+    def test_a_door_with_many_seams_counts_once(self):
+        self.assertEqual(hits(10, 45, [(0, 45)], 3), [1, 0])
+        self.assertEqual(hits(1, 200, [(4, 5), (0, 200), (7, 9)], 1), [2, 1, 2])
+
+    def test_a_seam_with_many_doors_counts_for_each(self):
+        self.assertEqual(hits(10, 45, [(12, 18), (12, 18), (13, 18), (11, 14)], 3), [3, 0, 1, 3])
+
+    def test_a_seam_just_at_a_doors_beginning_or_end_is_none(self):
+        self.assertEqual(hits(10, 45, [(13, 15), (3, 4), (14, 16)], 3), [0])
+        self.assertEqual(hits(10, 45, [(13, 15), (3, 4), (14, 16)], 4), [1, 0])
+        self.assertEqual(hits(10, 45, [(13, 15), (3, 4), (14, 16)], 5), [1, 2])
+
+    def test_a_room_narrower_than_a_strip(self):
+        self.assertEqual(hits(10, 6, [(0, 6)], 6), [0])
+        self.assertEqual(hits(10, 6, [(0, 6)], 10), [0])
+        self.assertEqual(hits(10, 6, [(0, 6)], 5), [1, 0])
+
+    def test_sides_are_no_doors(self):
+        told = ask(("begin", 3, 40, 40), ("side", 0, 40), ("hits", 1), ("turn",), ("hits", 1))
+        self.assertEqual(told[2:], [[0], [40], [1, 0]])
+
+    def test_by_the_numbers_as_they_are_now(self):
+        before = furnished(10, 45, 20, [(12, 18), (40, 45), (0, 4)])
+        told = ask(*before, ("undoor", 1), ("hits", 3), ("back",), ("hits", 3), ("undoor", 0), ("hits", 3))[5:]
+        self.assertEqual(told, [[2, 0, 1], [3], [3, 0, 1, 2], [2], [2, 0, 1]])
+
+    def test_none_just_if_it_is_clear(self):
+        before = furnished(10, 45, 20, [(12, 18), (40, 45), (0, 4)])
+        for o in range(1, 11):
+            told = ask(*before, ("hits", o), ("clear", o))[4:]
+            self.assertEqual(told[1], [1] if told[0] == [0] else [0])
 
 
 if __name__ == "__main__":
